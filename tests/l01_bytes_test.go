@@ -417,8 +417,9 @@ func TestHexReadByteByByte(t *testing.T) {
 	}
 }
 
+// share leaves out texts of one byte: Go keeps one of each of them.
 func share(a string, b string) bool {
-	if a == "" || b == "" {
+	if len(a) < 2 || len(b) < 2 {
 		return false
 	}
 	from, other := uintptr(unsafe.Pointer(unsafe.StringData(a))), uintptr(unsafe.Pointer(unsafe.StringData(b)))
