@@ -363,6 +363,28 @@ func TestPowersOfGroupG(t *testing.T) {
 	}
 }
 
+// GroupPow has the powers of GroupG from what is kept; ModPow, GroupPow of another one of the group, and PublicOf work them out.
+func TestPowersOfGroupGAreTheSameWhicheverWay(t *testing.T) {
+	const root = impl.GroupP - 2 // its product with itself is GroupG
+	wantGroupMul(t, root, root, impl.GroupG)
+	for _, n := range append(somePowers(), 0, 1, 2, impl.GroupQ-1, impl.GroupQ, impl.GroupQ+1, math.MaxInt64) {
+		kept := impl.GroupPow(impl.GroupG, n)
+		wantPow(t, impl.GroupG, n, impl.GroupP, kept)
+		wantPow(t, impl.GroupG, n%impl.GroupQ, impl.GroupP, kept)
+		wantGroupPow(t, root, 2*(n%impl.GroupQ), kept)
+		wantGroupMul(t, kept, impl.GroupPow(root, 2*(impl.GroupQ-n%impl.GroupQ)), 1)
+		wantGroupPow(t, impl.GroupG, n%impl.GroupQ, kept)
+		if 1 <= n && n < impl.GroupQ {
+			wantPublic(t, n, kept)
+		} else {
+			wantPublic(t, n, 0)
+		}
+		if kept != bigPow(impl.GroupG, n, impl.GroupP) {
+			t.Errorf("GroupPow(%d, %d): got %d", impl.GroupG, n, kept)
+		}
+	}
+}
+
 func TestEachOfTheGroupHasAnInverse(t *testing.T) {
 	for _, y := range append(someOfTheGroup(), impl.GroupG, impl.GroupP-2) {
 		inverse := impl.ModInv(y, impl.GroupP)

@@ -1,0 +1,95 @@
+package tests
+
+import (
+	"go/ast"
+	"go/parser"
+	"go/token"
+	"go/types"
+	"path/filepath"
+	"strings"
+	"testing"
+)
+
+// programFiles are those of impl, read as text.
+func programFiles(t *testing.T) []*ast.File {
+	t.Helper()
+	paths, err := filepath.Glob("../impl/*.go")
+	if err != nil || len(paths) == 0 {
+		t.Fatalf("impl has %d files, %v", len(paths), err)
+	}
+	var out []*ast.File
+	for _, path := range paths {
+		if strings.HasSuffix(path, "_test.go") {
+			continue
+		}
+		file, err := parser.ParseFile(token.NewFileSet(), path, nil, 0)
+		if err != nil {
+			t.Fatal(err)
+		}
+		out = append(out, file)
+	}
+	return out
+}
+
+// bodiesByName are the functions and methods of the program, those of one name together.
+func bodiesByName(files []*ast.File) map[string][]*ast.FuncDecl {
+	out := map[string][]*ast.FuncDecl{}
+	for _, file := range files {
+		for _, d := range file.Decls {
+			if f, ok := d.(*ast.FuncDecl); ok {
+				out[f.Name.Name] = append(out[f.Name.Name], f)
+			}
+		}
+	}
+	return out
+}
+
+// wordsReached are the names, and names behind a point, in what one function calls, as far as names tell.
+func wordsReached(bodies map[string][]*ast.FuncDecl, from string) map[string]bool {
+	words := map[string]bool{}
+	done := map[string]bool{from: true}
+	for work := []string{from}; len(work) > 0; work = work[1:] {
+		for _, f := range bodies[work[0]] {
+			ast.Inspect(f.Body, func(n ast.Node) bool {
+				switch x := n.(type) {
+				case *ast.SelectorExpr:
+					words[types.ExprString(x)] = true
+				case *ast.Ident:
+					words[x.Name] = true
+					if bodies[x.Name] != nil && !done[x.Name] {
+						done[x.Name] = true
+						work = append(work, x.Name)
+					}
+				}
+				return true
+			})
+		}
+	}
+	return words
+}
+
+// variableKind is the type that a variable of the package is declared with.
+func variableKind(files []*ast.File, name string) string {
+	for _, file := range files {
+		if o := file.Scope.Lookup(name); o != nil && o.Kind == ast.Var {
+			return types.ExprString(o.Decl.(*ast.ValueSpec).Type)
+		}
+	}
+	return ""
+}
+
+func TestThePowersOfGroupGAreMadeOnceAndRead(t *testing.T) {
+	files := programFiles(t)
+	if kind := variableKind(files, "powersMade"); kind != "sync.Once" {
+		t.Errorf("powersMade is of the type %q", kind)
+	}
+	if kind := variableKind(files, "powersOfG"); kind != "[powerBits]int64" {
+		t.Errorf("powersOfG is of the type %q", kind)
+	}
+	reached := wordsReached(bodiesByName(files), "GroupPow")
+	for _, word := range []string{"powersMade.Do", "makePowersOfG", "powersOfG"} {
+		if !reached[word] {
+			t.Errorf("GroupPow does not reach %s", word)
+		}
+	}
+}
