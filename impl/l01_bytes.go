@@ -240,6 +240,11 @@ func readHex(t string) (string, error) {
 	return string(out), nil
 }
 
+// timeRight: is it a time?
+func timeRight(n int64) bool {
+	return 0 <= n && n <= MaxTime
+}
+
 func isLetter(b byte) bool {
 	return 'a' <= b && b <= 'z'
 }

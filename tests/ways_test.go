@@ -93,3 +93,37 @@ func TestThePowersOfGroupGAreMadeOnceAndRead(t *testing.T) {
 		}
 	}
 }
+
+// embeddedIn are the types that a struct of that name holds without a name of their own.
+func embeddedIn(files []*ast.File, name string) []string {
+	var out []string
+	for _, file := range files {
+		o := file.Scope.Lookup(name)
+		if o == nil || o.Kind != ast.Typ {
+			continue
+		}
+		if s, ok := o.Decl.(*ast.TypeSpec).Type.(*ast.StructType); ok {
+			for _, f := range s.Fields.List {
+				if len(f.Names) == 0 {
+					out = append(out, types.ExprString(f.Type))
+				}
+			}
+		}
+	}
+	return out
+}
+
+func TestWhatIsWrongInMetaPanicsAndIsRecovered(t *testing.T) {
+	files := programFiles(t)
+	if got := embeddedIn(files, "reader"); len(got) != 1 || got[0] != "cursor" {
+		t.Errorf("reader embeds %v", got)
+	}
+	for _, face := range []string{"RootRead", "TargetsRead", "LinkRead", "SignedRead"} {
+		reached := wordsReached(bodiesByName(files), face)
+		for _, word := range []string{"reader", "panic", "recover"} {
+			if !reached[word] {
+				t.Errorf("%s does not reach %s", face, word)
+			}
+		}
+	}
+}
