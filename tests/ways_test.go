@@ -6,6 +6,7 @@ import (
 	"go/token"
 	"go/types"
 	"path/filepath"
+	"slices"
 	"strings"
 	"testing"
 )
@@ -125,5 +126,37 @@ func TestWhatIsWrongInMetaPanicsAndIsRecovered(t *testing.T) {
 				t.Errorf("%s does not reach %s", face, word)
 			}
 		}
+	}
+}
+
+// starters are the functions in whose own text a goroutine is started.
+func starters(files []*ast.File) []string {
+	var out []string
+	for name, bodies := range bodiesByName(files) {
+		for _, f := range bodies {
+			ast.Inspect(f, func(n ast.Node) bool {
+				if _, ok := n.(*ast.GoStmt); ok && !slices.Contains(out, name) {
+					out = append(out, name)
+				}
+				return true
+			})
+		}
+	}
+	return out
+}
+
+func TestSignersAloneStartsGoroutines(t *testing.T) {
+	files := programFiles(t)
+	if got := starters(files); len(got) != 1 || got[0] != "Signers" {
+		t.Errorf("goroutines are started by %v", got)
+	}
+	reached := wordsReached(bodiesByName(files), "Signers")
+	for _, word := range []string{"sync.WaitGroup", "Wait", "atomic.Int64", "SigCheck"} {
+		if !reached[word] {
+			t.Errorf("Signers does not reach %s", word)
+		}
+	}
+	if wordsReached(bodiesByName(files), "Enough")["Signers"] {
+		t.Error("Enough checks by goroutines, too")
 	}
 }
