@@ -160,3 +160,42 @@ func TestSignersAloneStartsGoroutines(t *testing.T) {
 		t.Error("Enough checks by goroutines, too")
 	}
 }
+
+// typeSwitchesIn are the names that the type switches of one function tell apart.
+func typeSwitchesIn(bodies map[string][]*ast.FuncDecl, name string) []string {
+	var out []string
+	for _, f := range bodies[name] {
+		ast.Inspect(f, func(n ast.Node) bool {
+			if s, ok := n.(*ast.TypeSwitchStmt); ok {
+				for _, c := range s.Body.List {
+					for _, kind := range c.(*ast.CaseClause).List {
+						out = append(out, types.ExprString(kind))
+					}
+				}
+			}
+			return true
+		})
+	}
+	return out
+}
+
+func TestUpdatesAreBehindAnInterface(t *testing.T) {
+	files := programFiles(t)
+	bodies := bodiesByName(files)
+	kinds := map[string]string{"UpdateRoot": "rootUpdate", "UpdateTimestamp": "timestampUpdate", "UpdateSnapshot": "snapshotUpdate", "UpdateTargets": "targetsUpdate"}
+	apart := typeSwitchesIn(bodies, "withUpdate")
+	for face, kind := range kinds {
+		reached := wordsReached(bodies, face)
+		for _, word := range []string{kind, "withUpdate", "u.awaited", "u.read", "u.signers", "u.follows", "u.expired", "errors.Is"} {
+			if !reached[word] {
+				t.Errorf("%s does not reach %s", face, word)
+			}
+		}
+		if !slices.Contains(apart, "*"+kind) {
+			t.Errorf("%s is not told apart: %v", kind, apart)
+		}
+	}
+	if !wordsReached(bodies, "Fresh")["errors.Is"] {
+		t.Error("what Fresh refuses is not asked with errors.Is")
+	}
+}
