@@ -182,7 +182,7 @@ func typeSwitchesIn(bodies map[string][]*ast.FuncDecl, name string) []string {
 func TestUpdatesAreBehindAnInterface(t *testing.T) {
 	files := programFiles(t)
 	bodies := bodiesByName(files)
-	kinds := map[string]string{"UpdateRoot": "rootUpdate", "UpdateTimestamp": "timestampUpdate", "UpdateSnapshot": "snapshotUpdate", "UpdateTargets": "targetsUpdate"}
+	kinds := map[string]string{"UpdateRoot": "rootUpdate", "UpdateTimestamp": "timestampUpdate", "UpdateSnapshot": "snapshotUpdate", "UpdateTargets": "targetsUpdate", "UpdateHead": "headUpdate"}
 	apart := typeSwitchesIn(bodies, "withUpdate")
 	for face, kind := range kinds {
 		reached := wordsReached(bodies, face)
@@ -197,5 +197,46 @@ func TestUpdatesAreBehindAnInterface(t *testing.T) {
 	}
 	if !wordsReached(bodies, "Fresh")["errors.Is"] {
 		t.Error("what Fresh refuses is not asked with errors.Is")
+	}
+}
+
+// comparedWith are the functions in whose own text something is compared, as a whole, with a literal of that text.
+func comparedWith(files []*ast.File, literal string) []string {
+	var out []string
+	for name, bodies := range bodiesByName(files) {
+		for _, f := range bodies {
+			ast.Inspect(f, func(n ast.Node) bool {
+				b, ok := n.(*ast.BinaryExpr)
+				if ok && (b.Op == token.EQL || b.Op == token.NEQ) && types.ExprString(ast.Unparen(b.Y)) == literal && !slices.Contains(out, name) {
+					out = append(out, name)
+				}
+				return true
+			})
+		}
+	}
+	return out
+}
+
+func TestTheLogHalvesBothSidesOfAWalk(t *testing.T) {
+	files := programFiles(t)
+	bodies := bodiesByName(files)
+	halves := bodies["halveBoth"]
+	if len(halves) != 1 || halves[0].Type.TypeParams == nil {
+		t.Fatalf("halveBoth stands there %d times, or is not generic", len(halves))
+	}
+	for _, face := range []string{"UpdateHead", "Logged"} {
+		if !wordsReached(bodies, face)["halveBoth"] {
+			t.Errorf("%s does not reach halveBoth", face)
+		}
+	}
+}
+
+func TestHeadsAreComparedAsWholes(t *testing.T) {
+	files := programFiles(t)
+	compared := comparedWith(files, "Head{}")
+	for _, name := range []string{"follows", "Logged"} {
+		if !slices.Contains(compared, name) {
+			t.Errorf("%s does not compare a Head as a whole: %v do", name, compared)
+		}
 	}
 }
