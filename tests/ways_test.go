@@ -240,3 +240,46 @@ func TestHeadsAreComparedAsWholes(t *testing.T) {
 		}
 	}
 }
+
+// typeWritten is how a type of the package is declared.
+func typeWritten(files []*ast.File, name string) string {
+	for _, file := range files {
+		if o := file.Scope.Lookup(name); o != nil && o.Kind == ast.Typ {
+			return types.ExprString(o.Decl.(*ast.TypeSpec).Type)
+		}
+	}
+	return ""
+}
+
+// deleters are the functions in whose own text something is deleted from a map.
+func deleters(files []*ast.File) []string {
+	var out []string
+	for name, bodies := range bodiesByName(files) {
+		for _, f := range bodies {
+			ast.Inspect(f, func(n ast.Node) bool {
+				call, ok := n.(*ast.CallExpr)
+				if ok && types.ExprString(call.Fun) == "delete" && !slices.Contains(out, name) {
+					out = append(out, name)
+				}
+				return true
+			})
+		}
+	}
+	return out
+}
+
+func TestBlobsStandInAMapByTheirDigests(t *testing.T) {
+	files := programFiles(t)
+	if key, shelf := typeWritten(files, "blobKey"), typeWritten(files, "shelf"); key != "[digestBytes]byte" || shelf != "map[blobKey]stored" {
+		t.Errorf("blobKey is %q, shelf is %q", key, shelf)
+	}
+	bodies := bodiesByName(files)
+	for _, face := range []string{"StoreRight", "StorePut", "StoreGet", "StoreSweep", "Materialize"} {
+		if !wordsReached(bodies, face)["shelf"] {
+			t.Errorf("%s does not reach the shelf", face)
+		}
+	}
+	if got := deleters(files); !slices.Contains(got, "StoreSweep") {
+		t.Errorf("what is swept out is not deleted by StoreSweep: %v delete", got)
+	}
+}
