@@ -283,3 +283,60 @@ func TestBlobsStandInAMapByTheirDigests(t *testing.T) {
 		t.Errorf("what is swept out is not deleted by StoreSweep: %v delete", got)
 	}
 }
+
+// assertedTo are the types that something is asserted to be in the functions of one name.
+func assertedTo(bodies map[string][]*ast.FuncDecl, name string) []string {
+	var out []string
+	for _, f := range bodies[name] {
+		ast.Inspect(f, func(n ast.Node) bool {
+			if a, ok := n.(*ast.TypeAssertExpr); ok && a.Type != nil {
+				out = append(out, types.ExprString(a.Type))
+			}
+			return true
+		})
+	}
+	return out
+}
+
+// labelsUsed are those by which the functions of one name leave a loop, or go on with it, each with the word ahead.
+func labelsUsed(bodies map[string][]*ast.FuncDecl, name string) []string {
+	var out []string
+	for _, f := range bodies[name] {
+		ast.Inspect(f, func(n ast.Node) bool {
+			if b, ok := n.(*ast.BranchStmt); ok && b.Label != nil {
+				out = append(out, b.Tok.String()+" "+b.Label.Name)
+			}
+			return true
+		})
+	}
+	return out
+}
+
+func TestNodesOfAPolicyAreBehindAnInterface(t *testing.T) {
+	files := programFiles(t)
+	bodies := bodiesByName(files)
+	if kind := typeWritten(files, "node"); !strings.HasPrefix(kind, "interface{") {
+		t.Errorf("node is %q", kind)
+	}
+	for face, word := range map[string]string{"PolicyRight": "node", "PolicyEval": "policy.holds", "PolicyText": "policy.text"} {
+		if !wordsReached(bodies, face)[word] {
+			t.Errorf("%s does not reach %s", face, word)
+		}
+	}
+	if got := assertedTo(bodies, "textWithin"); !slices.Contains(got, "pairNode") || !wordsReached(bodies, "PolicyText")["textWithin"] {
+		t.Errorf("what a node is is not asked by an assertion: %v", got)
+	}
+}
+
+func TestThePolicyReadersLoopHasALabel(t *testing.T) {
+	bodies := bodiesByName(programFiles(t))
+	used := labelsUsed(bodies, "read")
+	for _, way := range []string{"break reading", "continue reading"} {
+		if !slices.Contains(used, way) {
+			t.Errorf("no %s: %v", way, used)
+		}
+	}
+	if !wordsReached(bodies, "PolicyRead")["r.read"] {
+		t.Error("PolicyRead does not reach the loop")
+	}
+}
