@@ -340,3 +340,40 @@ func TestThePolicyReadersLoopHasALabel(t *testing.T) {
 		t.Error("PolicyRead does not reach the loop")
 	}
 }
+
+// isVariadic: does a function of that name take any number of what it takes last?
+func isVariadic(bodies map[string][]*ast.FuncDecl, name string) bool {
+	for _, f := range bodies[name] {
+		if list := f.Type.Params.List; len(list) > 0 {
+			if _, ok := list[len(list)-1].Type.(*ast.Ellipsis); ok {
+				return true
+			}
+		}
+	}
+	return false
+}
+
+func TestChecksOfAnAskArePutTogetherByAVariadicFunction(t *testing.T) {
+	bodies := bodiesByName(programFiles(t))
+	if !isVariadic(bodies, "firstFault") {
+		t.Error("firstFault takes no checks as they come")
+	}
+	for _, face := range []string{"Admit", "AdmitAll"} {
+		if !wordsReached(bodies, face)["firstFault"] {
+			t.Errorf("%s does not reach firstFault", face)
+		}
+	}
+}
+
+func TestTargetsStandInAMapByName(t *testing.T) {
+	bodies := bodiesByName(programFiles(t))
+	made := bodies["targetsByName"]
+	if len(made) != 1 || types.ExprString(made[0].Type.Results.List[0].Type) != "map[string]Target" {
+		t.Fatalf("targetsByName stands there %d times, or tells no such map", len(made))
+	}
+	for _, face := range []string{"TargetOf", "Admit", "AdmitAll"} {
+		if !wordsReached(bodies, face)["targetsByName"] {
+			t.Errorf("%s does not reach targetsByName", face)
+		}
+	}
+}
